@@ -1,0 +1,1 @@
+"""Notes in voices, moved, turned about, woven, and looked through for faults."""
