@@ -4,8 +4,11 @@ import copy
 import unittest
 
 from voiceweave.errors import BadPiece
+from voiceweave.faults import faults
 from voiceweave.moving import mirrored, moved, shrunk, stretched, turned
 from voiceweave.pieces import good, length, sounding
+from voiceweave.texts import written
+from voiceweave.weaving import entries_of
 
 HUGE = 10 ** 30
 
@@ -73,6 +76,12 @@ NO_PIECES = [
     [wrong, [(0, 2, 5)]] for wrong in NO_VOICES
 ]
 
+
+def entries_of_a_note(piece):
+    """All entries of a theme of one note in a piece: entries_of with the piece as its first argument."""
+    return entries_of([(0, 1, 0)], piece)
+
+
 # Each function that takes a piece, with numbers that it takes.
 CALLS = [
     (good, ()),
@@ -83,6 +92,9 @@ CALLS = [
     (turned, (100000,)),
     (stretched, (1,)),
     (shrunk, (1,)),
+    (faults, ()),
+    (entries_of_a_note, ()),
+    (written, ()),
 ]
 
 
@@ -114,13 +126,36 @@ class Case(unittest.TestCase):
             second = function(*arguments)
             self.assertEqual(arguments, before)
             self.assertEqual(repr(arguments), repr(before))
-            lists = lists_in(arguments) + lists_in(first) + lists_in(second)
-            self.assertEqual(len({id(one) for one in lists}), len(lists))
+            told = [id(one) for one in lists_in(first) + lists_in(second)]
+            self.assertEqual(len(set(told)), len(told))
+            handed_in = {id(one) for one in lists_in(arguments)}
+            self.assertEqual([one for one in told if one in handed_in], [])
 
     def assert_bad_piece_first(self, function, *arguments):
         """The call is refused with BadPiece for whatever is no piece, with these numbers."""
         for piece in NO_PIECES:
             self.assert_refused(BadPiece, function, piece, *arguments)
+
+
+def made_pieces(many):
+    """So many pieces of one to six voices, the same ones each time, in which notes touch, meet, pass and leap."""
+    steps = [0, 1, 1, 2, 2, -1, -1, -2, -2, 3, -3, 7, -7, 12, -12, 13, -13]
+    state = 1
+    pieces = []
+    for count in range(many):
+        piece = []
+        for voice in range(1 + count % 6):
+            notes, time, pitch = [], 0, 12 - 5 * voice
+            for _ in range((count + voice) % 8):
+                state = (state * 1103515245 + 12345) % 2 ** 31
+                time += (0, 0, 0, 0, 0, 0, 1)[state // 64 % 7]
+                long = (1, 1, 1, 1, 2, 3)[state // 512 % 6]
+                pitch += steps[state // 4096 % len(steps)]
+                notes.append((time, long, pitch))
+                time += long
+            piece.append(notes)
+        pieces.append(piece)
+    return pieces
 
 
 def lists_in(value):
